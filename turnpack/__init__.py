@@ -1,0 +1,1 @@
+"""Bytes packed by sorting their turns, in the format of bzip2."""
